@@ -1,0 +1,1 @@
+"""Measurekind: the widest measure of a reckoning."""
