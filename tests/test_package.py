@@ -17,6 +17,11 @@ FUNCTIONS = {
         "product": ["one", "other"], "quotient": ["one", "other"], "raised": ["one", "n"],
         "is_less": ["one", "other"],
     },
+    "reckonings": {"is_reckoning": ["thing"], "inputs": ["reckoning"], "noughts": ["reckoning"]},
+    "worths": {"worth": ["reckoning", "values"]},
+    "fitting": {
+        "measure_by": ["reckoning", "names", "noughts"], "measure_of": ["reckoning"], "alike": ["reckoning"],
+    },
 }
 CLASSES = {"errors": ["MeasureError", "NoFit", "Unlike", "NoValue", "ByNought"]}
 # What ../shared/LANGUAGE.md lets in (L2 and L8, but print); all else stays out.
