@@ -17,22 +17,26 @@ def fraction(above, below):
 
 def added(one, other):
     """Tells one and the other together."""
-    return fraction(one[0] * other[1] + other[0] * one[1], one[1] * other[1])
+    return _together(one, other[0], other[1])
 
 
 def lessened(one, other):
     """Tells one less the other."""
-    return fraction(one[0] * other[1] - other[0] * one[1], one[1] * other[1])
+    return _together(one, -other[0], other[1])
 
 
 def product(one, other):
     """Tells one times the other."""
-    return fraction(one[0] * other[0], one[1] * other[1])
+    # What is divided out on either way across is all that there is, as both are in lowest
+    # terms; it is found sooner there than in the long numbers of the answer.
+    falling = gcd(one[0], other[1])
+    rising = gcd(other[0], one[1])
+    return ((one[0] // falling) * (other[0] // rising), (one[1] // rising) * (other[1] // falling))
 
 
 def quotient(one, other):
     """Tells one over the other; ByNought where the other is nought."""
-    return fraction(one[0] * other[1], one[1] * other[0])
+    return product(one, _turned(other))
 
 
 def raised(one, n):
@@ -41,7 +45,7 @@ def raised(one, n):
     if n < 0:
         # Turned over before it is raised: powers of what is in lowest terms are so
         # too, and the long numbers need not be divided by one another.
-        above, below = fraction(below, above)
+        above, below = _turned(one)
         n = -n
     return (_whole_power(above, n), _whole_power(below, n))
 
@@ -49,6 +53,27 @@ def raised(one, n):
 def is_less(one, other):
     """Tells whether one is less than the other: True or False."""
     return one[0] * other[1] < other[0] * one[1]
+
+
+def _together(one, above, below):
+    """Tells one and the fraction of above and below, in lowest terms too, together."""
+    shared = gcd(one[1], below)
+    rest = one[1] // shared
+    whole = one[0] * (below // shared) + above * rest
+    # Only what both have below can be divided out of both ends of the answer: so the long
+    # numbers need not be divided by one another.
+    left = gcd(whole, shared)
+    return (whole // left, rest * (below // left))
+
+
+def _turned(one):
+    """Tells the quotient of (1, 1) by one; ByNought of nought."""
+    above, below = one
+    if above == 0:
+        raise ByNought("something is to be divided by nought")
+    if above < 0:
+        return (-below, -above)
+    return (below, above)
 
 
 def _whole_power(number, n):

@@ -3,25 +3,25 @@
 
 def times(one, other):
     """Tells the measure that has the powers of both added."""
-    return _gathered([(one, 1), (other, 1)])
+    return gathered([(one, 1), (other, 1)])
 
 
 def over(one, other):
     """Tells the measure that has the powers of the other taken away."""
-    return _gathered([(one, 1), (other, -1)])
+    return gathered([(one, 1), (other, -1)])
 
 
 def power(one, n):
     """Tells the measure that has all powers n times."""
-    return _gathered([(one, n)])
+    return gathered([(one, n)])
 
 
 def filled(measure, filling):
     """Tells the measure with the letters of the filling replaced, all at once."""
-    return _gathered([(filling.get(letter, ((letter, 1),)), many) for letter, many in measure])
+    return gathered([(filling.get(letter, ((letter, 1),)), many) for letter, many in measure])
 
 
-def _gathered(parts):
+def gathered(parts):
     """Tells the product of measures; parts: a list of pairs (measure, to which power)."""
     powers = {}
     for measure, n in parts:

@@ -32,6 +32,14 @@ def walk(reckoning):
         yield from walk(part)
 
 
+def paired(kind, parts):
+    """All parts in one reckoning, about as deep everywhere."""
+    while len(parts) > 1:
+        pairs = [(kind, one, other) for one, other in zip(parts[::2], parts[1::2])]
+        parts = pairs + parts[2 * len(pairs):]
+    return parts[0]
+
+
 def chance_measure(chance, most=2):
     letters = sorted(chance.sample(["k", "m", "s"], chance.randrange(most + 1)))
     return tuple((letter, chance.choice([-2, -1, 1, 2])) for letter in letters)
@@ -100,3 +108,19 @@ def chance_fitting_leaf(chance, target, names, noughts):
     name = chance.choice(known + ["abcdefghijklmnopqrstuvwxyz"[len(names) % 26] * (1 + len(names) // 26)])
     names[name] = target
     return inp(name)
+
+
+def filled_by(measure, filling):
+    """The measure with each letter of the filling replaced, worked out apart from the program."""
+    told = ()
+    for letter, many in measure:
+        told = joined(told, filling.get(letter, ((letter, 1),)), many)
+    return told
+
+
+def in_all(measures, numbers):
+    """The product of the measures, each to the power of its number."""
+    told = ()
+    for measure, n in zip(measures, numbers, strict=True):
+        told = joined(told, measure, n)
+    return told

@@ -22,6 +22,11 @@ FUNCTIONS = {
     "fitting": {
         "measure_by": ["reckoning", "names", "noughts"], "measure_of": ["reckoning"], "alike": ["reckoning"],
     },
+    "solving": {"solved": ["measures", "letters"]},
+    "kinds": {"widest": ["reckoning"]},
+    "units": {
+        "scale": ["measure", "units"], "retold": ["reckoning", "units"], "rescaled": ["values", "names", "units"],
+    },
 }
 CLASSES = {"errors": ["MeasureError", "NoFit", "Unlike", "NoValue", "ByNought"]}
 # What ../shared/LANGUAGE.md lets in (L2 and L8, but print); all else stays out.
