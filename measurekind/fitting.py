@@ -11,7 +11,8 @@ def measure_by(reckoning, names, noughts):
     measure, pairs = _looked_through(reckoning, names, noughts)
     for one, other in pairs:
         if one != other:
-            raise Unlike(f"{one} and {other} have to be alike")
+            # The measures stay out of the text: a power may be too long to be written in figures.
+            raise Unlike("two measures that have to be alike are not")
     return measure
 
 
